@@ -1,0 +1,154 @@
+"""The conventions (point 2), for each function and method at once."""
+
+import unittest
+
+from neverlouder import bars, basics, boxes, curves, played, ranks, ratios, series, squares, tables, twins
+from neverlouder.boxes import Box
+from neverlouder.errors import (
+    InvalidBox, InvalidCurve, InvalidMany, InvalidNumber, InvalidPoint, InvalidPositions, InvalidRatio, InvalidRow,
+    InvalidRows, InvalidTable, InvalidWeights,
+)
+from neverlouder.ratios import Ratio
+from neverlouder.twins import Twin
+from tests.helper import ODD_VALUES, Looks, as_tuples, lists_in
+
+HALF = Ratio(1, 2)
+CURVE = [1, HALF, 0, Twin(2, -1), 0]
+OTHER = [Twin(1, 1), 0, 3]
+TABLE = [[2, Twin(0, 1)], [Twin(0, -1), Ratio(1)]]
+LOW = [[1, Twin(2)], [2, 1]]
+BOX = Box(CURVE, OTHER)
+
+# For each kind of parameter: a value that will do, its error, and odd values that may stand there all the same.
+KINDS = {
+    "number": (Twin(HALF, 1), InvalidNumber, []),
+    "ratio": (Ratio(2, 3), InvalidRatio, []),
+    "many": (4, InvalidMany, []),
+    "point": (Twin(0, HALF), InvalidPoint, []),
+    "curve": (CURVE, InvalidCurve, []),
+    "other": (OTHER, InvalidCurve, []),
+    "top": (CURVE, InvalidCurve, []),
+    "base": (OTHER, InvalidCurve, []),
+    "row": ([1, 0, Twin(1, 2)], InvalidRow, []),
+    "box": (BOX, InvalidBox, []),
+    "table": (TABLE, InvalidTable, [[[1]]]),
+    "other_table": (LOW, InvalidTable, [[[1]]]),
+    "weights": ([1, Twin(1, HALF)], InvalidWeights, []),
+    "rows": ([[1, 2], [Twin(0, 1), 0], [0, 0]], InvalidRows, []),
+    "positions": ([1, 0], InvalidPositions, []),
+    "ratios": ([1, HALF, 3], None, []),
+    "numbers": ([1, HALF, Twin(0, 1)], None, []),
+    "value": ([(2, [1, Twin(0, -HALF)]), (HALF, [0, 1])], None, []),
+}
+
+ONE = Ratio(3, 4)
+TWIN = Twin(1, HALF)
+CALLS = (
+    (basics.is_integer, "value"), (basics.is_count, "value"), (ratios.is_ratio, "value"), (twins.is_value, "value"),
+    (twins.is_point, "value"), (twins.is_unit, "value"), (curves.is_curve, "value"), (tables.is_table, "value"),
+    (ONE.over, "ratio"), (ONE.unsigned, ""), (ONE.is_below, "ratio"), (ONE.is_at_most, "ratio"),
+    (Ratio.sum_of, "ratios"), (twins.as_twin, "number"), (TWIN.over, "number"), (TWIN.mirror, ""), (TWIN.size, ""),
+    (TWIN.power, "many"), (Twin.total, "numbers"),
+    (curves.told, "curve"), (curves.degree, "curve"), (curves.leading, "curve"), (curves.plus, "curve other"),
+    (curves.minus, "curve other"), (curves.times, "curve other"), (curves.scaled, "curve number"),
+    (curves.divided, "curve other"), (curves.common, "curve other"), (curves.worth_at, "curve number"),
+    (curves.derived, "curve"), (curves.moved, "curve number"), (curves.mirrored, "curve"),
+    (curves.turned, "curve many"), (series.quotient_series, "curve other many"),
+    (series.quotient_at, "curve other number many"), (series.product_series, "curve other many"),
+    (series.series_at, "curve number many"),
+    (tables.form, "table weights"), (tables.plus_tables, "table other_table"),
+    (tables.entry_product, "table other_table"), (tables.times_table, "table ratio"), (tables.shared, "table rows"),
+    (tables.picked, "table positions"), (squares.is_never_below, "table"), (squares.squares, "table"),
+    (squares.is_squares, "table value"), (bars.bar, "table"), (bars.is_bar, "table value"),
+    (bars.least_part, "table"), (ranks.signs, "table"), (ranks.rank, "table"), (ranks.determinant, "table"),
+    (ranks.nothing, "table"),
+    (Box, "top base"), (BOX.curves, ""), (BOX.worth, "point"), (BOX.around, "point many"), (BOX.knock, "many"),
+    (played.answers, "box row"), (played.force, "row"), (played.is_softer, "box row"),
+)
+
+
+def good(kinds):
+    return [KINDS[kind][0] for kind in kinds.split()]
+
+
+def name_of(kind):
+    return "other" if kind == "other_table" else kind
+
+
+def with_tuples(given):
+    """Tuples for lists; a Box has none to change."""
+    return [one if isinstance(one, Box) else as_tuples(one) for one in given]
+
+
+class Calls(Looks, unittest.TestCase):
+    def test_by_name(self):
+        for call, kinds in CALLS:
+            names = {name_of(kind): KINDS[kind][0] for kind in reversed(kinds.split())}
+            self.assertEqual(call(**names), call(*good(kinds)))
+
+    def test_tuples_for_lists(self):
+        for call, kinds in CALLS:
+            found = call(*with_tuples(good(kinds)))
+            self.assertEqual(found, call(*good(kinds)))
+            self.assertIs(found.__class__, call(*good(kinds)).__class__)
+
+    def test_nothing_passed_is_changed(self):
+        for call, kinds in CALLS:
+            given = good(kinds)
+            before = repr(given)
+            call(*given)
+            self.assertEqual(repr(given), before)
+
+    def test_lists_are_new(self):
+        for call, kinds in CALLS:
+            given = good(kinds)
+            first, second = call(*given), call(*given)
+            self.assertEqual(first, second)
+            held = [id(one) for one in lists_in(given) + lists_in(first) + lists_in(second)]
+            self.assertEqual(len(held), len(set(held)), (call, kinds))
+
+    def test_told_values_too(self):
+        told = {"curve": curves.told(CURVE), "other": curves.told(OTHER), "table": tables.plus_tables(TABLE, [[0, 0]] * 2)}
+        for call in (curves.told, curves.moved, curves.plus, curves.common, tables.picked, ranks.nothing):
+            kinds = dict(CALLS)[call].split()
+            given = [told.get(kind, KINDS[kind][0]) for kind in kinds]
+            before = repr(given)
+            found = call(*given)
+            held = [id(one) for one in lists_in(given) + lists_in(found)]
+            self.assertEqual((repr(given), len(held)), (before, len(set(held))))
+
+
+class Wrong(Looks, unittest.TestCase):
+    def test_first_bad_one_decides(self):
+        for call, kinds in CALLS:
+            names = kinds.split()
+            for at, kind in enumerate(names):
+                if KINDS[kind][1] is not None:
+                    self.assert_first(call, names, at)
+
+    def assert_first(self, call, names, at):
+        _, error, fine = KINDS[names[at]]
+        ahead = [KINDS[kind][0] for kind in names[:at]]
+        for value in ODD_VALUES:
+            if value not in fine:
+                right = [KINDS[kind][0] for kind in names[at + 1:]]
+                self.assert_error(error, call, *ahead, value, *right, value=value)
+                self.assert_error(error, call, *ahead, value, *[None for _ in right], value=value)
+
+    def test_truths_are_no_numbers(self):
+        calls = (
+            (InvalidCurve, curves.told, [True]), (InvalidCurve, curves.told, [1, False]), (InvalidRatio, Ratio, True),
+            (InvalidRatio, Twin, False), (InvalidNumber, twins.as_twin, True), (InvalidTable, ranks.rank, [[True]]),
+            (InvalidRow, played.force, [0, True]), (InvalidMany, BOX.knock, True), (InvalidPoint, BOX.worth, False),
+        )
+        for error, call, value in calls:
+            self.assert_error(error, call, value, value=value)
+
+    def test_a_list_is_told_whole(self):
+        for value in ([1, 2, None, True], (1, "2", 3)):
+            self.assert_error(InvalidCurve, curves.told, value, value=value)
+            self.assert_error(InvalidRow, played.force, value, value=value)
+
+
+if __name__ == "__main__":
+    unittest.main()
