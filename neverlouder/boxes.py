@@ -17,11 +17,27 @@ def need_box(box):
 
 
 def lowest_terms(top, base):
-    """Two told curves without their common part, the base's entry 0 made 1."""
+    """Two told curves of any degree without their common part, the base's entry 0 made 1.
+
+    None if that entry is 0, or the base nought: these two make no box.
+    """
+    if not base:
+        return None
     part = common_part(top, base)
     upper = quotient_and_rest(top, part)[0]
     lower = quotient_and_rest(base, part)[0]
+    if lower[0].is_nought:
+        return None
     return [one.over(lower[0]) for one in upper], [one.over(lower[0]) for one in lower]
+
+
+def box_of_curves(top, base):
+    """The Box of two told curves, of a degree up to 40 in lowest terms; None if they make none."""
+    found = lowest_terms(top, base)
+    if found is None:
+        return None
+    upper, lower = found
+    return Box(upper, lower)
 
 
 class Box:

@@ -6,6 +6,15 @@ from fractions import Fraction
 from neverlouder.ratios import Ratio
 from neverlouder.twins import Twin
 
+HALF = Ratio(1, 2)
+POINTS = (
+    0, Ratio(1, 2), Ratio(-1, 3), Twin(0, Ratio(1, 2)), Twin(Ratio(1, 2), Ratio(-1, 3)), Ratio(1, 4), Ratio(-3, 5),
+    Twin(Ratio(-1, 4), Ratio(1, 4)),
+)
+UNITS = (1, -1, Twin(0, 1), Twin(Ratio(3, 5), Ratio(4, 5)), Twin(Ratio(5, 13), Ratio(-12, 13)))
+# Not quite of size 1.
+NEAR_UNITS = (Twin(Ratio(3, 5), Ratio(81, 100)), Ratio(1000001, 1000000), Twin(0, Ratio(-7, 6)), 2)
+
 
 class Exact:
     """A number of two parts, reckoned by Fractions alone."""
@@ -179,6 +188,32 @@ class Chance:
             ]
             for one in rows
         ]
+
+
+    def small(self):
+        """A VALUE of a size below 1."""
+        return self.pick((0, Ratio(1, 2), Ratio(-2, 3), Twin(Ratio(1, 3), Ratio(1, 4)), Twin(0, Ratio(-3, 5)), HALF))
+
+    def points(self, many):
+        """So many unlike points."""
+        return self.source.sample(POINTS, many)
+
+    def shape(self, most):
+        """How many answers a telling has at each point, at most so many together."""
+        left = 1 + self.below(most)
+        found = []
+        while left > 0:
+            found.append(1 + self.below(min(left, 4)))
+            left = left - found[-1]
+        return found
+
+    def telling(self, shape):
+        """A telling with so many answers at each point, often one that is not doable."""
+        return [(point, [self.small() for _ in range(many)]) for point, many in zip(self.points(len(shape)), shape)]
+
+    def steps(self, many):
+        """So many steps, with 0 as the last number."""
+        return [(self.pick(POINTS), self.small()) for _ in range(many)], 0
 
 
 class Looks:

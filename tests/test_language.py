@@ -236,6 +236,15 @@ INTERFACE = {
     "tables": "is_table form plus_tables entry_product times_table shared picked",
     "squares": "is_never_below squares is_squares", "bars": "bar is_bar least_part",
     "ranks": "signs rank determinant nothing", "boxes": "Box", "played": "answers force is_softer",
+    "tones": "tone force_table",
+    "made": "made_table mixture_in mixture_out does telling_of is_doable kind",
+    "steps": "sequence step parameters stepped step_box step_back", "built": "is_steps box_of steps_of shows",
+    "barred": "rest_table leading_table led_back bar_of is_bar_of", "family": "family free_at",
+    "members": "member free_of only_box", "spots": "spot next_spot is_in_spot is_on_rim on_rim_box goes_with",
+    "turns": "Turn box_put box_moved moved_telling answers_moved turn_by",
+    "distances": "distance round_spot two_let far_pair lone_spots",
+    "beginnings": "knocks_let schur_of schur from_schur next_knock",
+    "bounds": "made_table_within is_doable_within bar_within is_bar_within",
 }
 IN_CLASSES = {
     "Ratio": (
@@ -247,6 +256,7 @@ IN_CLASSES = {
         "__rmul__ __neg__ __eq__ __str__ __repr__ __init__"
     ),
     "Box": "degree curves worth around knock __eq__ __repr__ __init__",
+    "Turn": "parts at back behind __eq__ __repr__ __init__",
 }
 
 

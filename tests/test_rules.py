@@ -2,13 +2,18 @@
 
 import unittest
 
-from neverlouder import bars, basics, boxes, curves, played, ranks, ratios, series, squares, tables, twins
+from neverlouder import (
+    barred, bars, basics, beginnings, bounds, boxes, built, curves, distances, family, made, members, played, ranks,
+    ratios, series, spots, squares, steps, tables, tones, turns, twins,
+)
 from neverlouder.boxes import Box
 from neverlouder.errors import (
-    InvalidBox, InvalidCurve, InvalidMany, InvalidNumber, InvalidPoint, InvalidPositions, InvalidRatio, InvalidRow,
-    InvalidRows, InvalidTable, InvalidWeights,
+    InvalidBound, InvalidBox, InvalidCurve, InvalidMany, InvalidNumber, InvalidNumbers, InvalidPoint, InvalidPoints,
+    InvalidPositions, InvalidRatio, InvalidRow, InvalidRows, InvalidSteps, InvalidTable, InvalidTelling, InvalidTurn,
+    InvalidUnit, InvalidWeights,
 )
 from neverlouder.ratios import Ratio
+from neverlouder.turns import Turn
 from neverlouder.twins import Twin
 from tests.helper import ODD_VALUES, Looks, as_tuples, lists_in
 
@@ -18,6 +23,12 @@ OTHER = [Twin(1, 1), 0, 3]
 TABLE = [[2, Twin(0, 1)], [Twin(0, -1), Ratio(1)]]
 LOW = [[1, Twin(2)], [2, 1]]
 BOX = Box(CURVE, OTHER)
+SOFT = Box([1, 2], [2, 1])
+TELLING = [(0, [HALF, Twin(0, Ratio(1, 4))]), (Ratio(1, 3), (Twin(HALF, Ratio(1, 10)),))]
+ONE_TOLD = [(0, [HALF])]
+TWO = [(0, [0]), (HALF, [Ratio(1, 3)])]
+STEPS = ([(0, HALF), (HALF, 0)], Twin(0, 1))
+TURN = Turn(Twin(0, 1), HALF)
 
 # For each kind of parameter: a value that will do, its error, and odd values that may stand there all the same.
 KINDS = {
@@ -39,6 +50,39 @@ KINDS = {
     "ratios": ([1, HALF, 3], None, []),
     "numbers": ([1, HALF, Twin(0, 1)], None, []),
     "value": ([(2, [1, Twin(0, -HALF)]), (HALF, [0, 1])], None, []),
+    "times": (2, InvalidMany, []),
+    "telling": (TELLING, InvalidTelling, []),
+    "one_telling": (ONE_TOLD, InvalidTelling, []),
+    "two_telling": (TWO, InvalidTelling, []),
+    "told_weights": ([1, HALF, Twin(0, 1)], InvalidWeights, []),
+    "led_weights": ([1, Twin(0, 1)], InvalidWeights, []),
+    "points": ([0, Twin(0, HALF)], InvalidPoints, []),
+    "few": (2, InvalidMany, []),
+    "soft_box": (SOFT, InvalidBox, []),
+    "free": (SOFT, InvalidBox, []),
+    "steps": (STEPS, InvalidSteps, []),
+    "small_number": (Twin(0, HALF), InvalidNumber, []),
+    "told_point": (0, InvalidPoint, []),
+    "half_point": (HALF, InvalidPoint, []),
+    "rim_number": (Ratio(4, 5), InvalidNumber, []),
+    "other_point": (HALF, InvalidPoint, []),
+    "other_number": (Twin(0, 1), InvalidNumber, []),
+    "goal": (0, InvalidPoint, []),
+    "other_goal": (Twin(0, HALF), InvalidPoint, []),
+    "unit": (Twin(0, -1), InvalidUnit, []),
+    "turn": (TURN, InvalidTurn, []),
+    "part": (Ratio(2, 3), InvalidRatio, []),
+    "beginning": ([HALF, Ratio(1, 4)], InvalidRow, []),
+    "soft_numbers": ([HALF, Twin(0, HALF)], InvalidNumbers, []),
+    "last": (Twin(0, 1), InvalidNumber, []),
+    "bound": (Ratio(3, 2), InvalidBound, []),
+}
+# What a kind of parameter is called, if not as its kind.
+NAMES = {
+    "other_table": "other", "one_telling": "telling", "two_telling": "telling", "told_weights": "weights",
+    "led_weights": "weights", "few": "many", "soft_box": "box", "small_number": "number", "told_point": "point",
+    "half_point": "point", "rim_number": "number", "unit": "number", "part": "ratio", "beginning": "row",
+    "soft_numbers": "numbers",
 }
 
 ONE = Ratio(3, 4)
@@ -64,6 +108,28 @@ CALLS = (
     (ranks.nothing, "table"),
     (Box, "top base"), (BOX.curves, ""), (BOX.worth, "point"), (BOX.around, "point many"), (BOX.knock, "many"),
     (played.answers, "box row"), (played.force, "row"), (played.is_softer, "box row"),
+    (tones.tone, "point many times"), (tones.force_table, "telling"), (made.made_table, "telling"),
+    (made.mixture_in, "telling told_weights"), (made.mixture_out, "telling told_weights"),
+    (made.does, "box telling"), (made.telling_of, "box points few"), (made.is_doable, "telling"),
+    (made.kind, "telling"), (steps.sequence, "telling"), (steps.step, "telling"), (steps.parameters, "telling"),
+    (steps.stepped, "telling few"), (steps.step_box, "soft_box point"), (steps.step_back, "box point small_number"),
+    (built.is_steps, "value"), (built.box_of, "steps"), (built.steps_of, "telling"), (built.shows, "telling value"),
+    (barred.rest_table, "telling"), (barred.leading_table, "telling"), (barred.led_back, "telling led_weights"),
+    (barred.bar_of, "telling"), (barred.is_bar_of, "telling value"), (family.family, "telling"),
+    (family.free_at, "telling point number"), (members.member, "telling free"),
+    (members.free_of, "one_telling soft_box"), (members.only_box, "telling"), (spots.spot, "telling point"),
+    (spots.next_spot, "telling told_point"), (spots.is_in_spot, "telling point number"),
+    (spots.is_on_rim, "telling point number"), (spots.on_rim_box, "one_telling half_point rim_number"),
+    (spots.goes_with, "telling point number other_point other_number"), (Turn, "unit point"), (TURN.parts, ""),
+    (TURN.at, "small_number"), (TURN.back, ""), (TURN.behind, "turn"), (turns.box_put, "box turn"),
+    (turns.box_moved, "box turn"), (turns.moved_telling, "telling turn"), (turns.answers_moved, "telling turn"),
+    (turns.turn_by, "told_point other_point goal other_goal"), (distances.distance, "point other_point"),
+    (distances.round_spot, "point part"), (distances.two_let, "two_telling"), (distances.far_pair, "telling"),
+    (distances.lone_spots, "telling point"), (beginnings.knocks_let, "beginning"),
+    (beginnings.schur_of, "beginning"), (beginnings.schur, "box few"), (beginnings.from_schur, "soft_numbers last"),
+    (beginnings.next_knock, "beginning"), (bounds.made_table_within, "telling bound"),
+    (bounds.is_doable_within, "telling bound"), (bounds.bar_within, "telling bound"),
+    (bounds.is_bar_within, "telling bound value"),
 )
 
 
@@ -72,12 +138,12 @@ def good(kinds):
 
 
 def name_of(kind):
-    return "other" if kind == "other_table" else kind
+    return NAMES.get(kind, kind)
 
 
 def with_tuples(given):
-    """Tuples for lists; a Box has none to change."""
-    return [one if isinstance(one, Box) else as_tuples(one) for one in given]
+    """Tuples for lists."""
+    return [as_tuples(one) for one in given]
 
 
 class Calls(Looks, unittest.TestCase):
@@ -132,8 +198,11 @@ class Wrong(Looks, unittest.TestCase):
         for value in ODD_VALUES:
             if value not in fine:
                 right = [KINDS[kind][0] for kind in names[at + 1:]]
-                self.assert_error(error, call, *ahead, value, *right, value=value)
-                self.assert_error(error, call, *ahead, value, *[None for _ in right], value=value)
+                # The odd lists begin with what is no told, too.
+                at_first = 0 if isinstance(value, (list, tuple)) else None
+                held = {"position": at_first} if error is InvalidTelling else {"value": value}
+                self.assert_error(error, call, *ahead, value, *right, **held)
+                self.assert_error(error, call, *ahead, value, *[None for _ in right], **held)
 
     def test_truths_are_no_numbers(self):
         calls = (
