@@ -33,7 +33,7 @@ def box_of(steps):
     if not is_steps(steps):
         raise InvalidSteps(steps)
     pairs, last = steps
-    top = trimmed([as_twin(last)])
+    top = [as_twin(last)]
     base = [Twin(1)]
     for point, number in pairs[::-1]:
         top, base = led_through(step_curves(as_twin(point), as_twin(number)), top, base)

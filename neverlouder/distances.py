@@ -2,7 +2,7 @@
 
 from neverlouder.errors import InvalidRatio, NotTwo
 from neverlouder.made import kind_of
-from neverlouder.ratios import Ratio, as_ratio, is_ratio
+from neverlouder.ratios import as_ratio
 from neverlouder.tellings import answers_in, need_not_loud, told_telling
 from neverlouder.twins import as_point
 
@@ -19,9 +19,10 @@ def _distance_of(place, other):
 def round_spot(point, ratio):
     """The tuple of the middle and the half width squared of all points at most so far away."""
     place = as_point(point)
-    if not is_ratio(ratio) or as_ratio(ratio).sign < 0 or not as_ratio(ratio).is_below(1):
+    most = as_ratio(ratio)
+    if most.sign < 0 or not most.is_below(1):
         raise InvalidRatio(ratio)
-    return _round_spot(place, as_ratio(ratio))
+    return _round_spot(place, most)
 
 
 def _round_spot(place, ratio):
@@ -54,10 +55,5 @@ def lone_spots(telling, point):
     tolds = told_telling(telling)
     place = as_point(point)
     need_not_loud(tolds)
-    return [_lone_spot(answers[0], _distance_of(goal, place)) for goal, answers in tolds]
-
-
-def _lone_spot(number, ratio):
-    if number.size() == Ratio(1):
-        return number, Ratio(0)
-    return _round_spot(number, ratio)
+    # Round a number of size 1 these words tell it alone, too.
+    return [_round_spot(answers[0], _distance_of(goal, place)) for goal, answers in tolds]

@@ -27,11 +27,7 @@ def spot(telling, point):
 
 
 def _spot_at(tolds, place):
-    which = _doable_kind(tolds)
-    entries = answers_at(tolds, place)
-    if entries:
-        return entries[0], Ratio(0)
-    if which == "one":
+    if _doable_kind(tolds) == "one":
         return only_of(tolds).worth(place), Ratio(0)
     return round_image(worths_of(family_of(tolds), place))
 

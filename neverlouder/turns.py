@@ -61,7 +61,7 @@ def box_put(box, turn):
     above = [-number * point, number]
     below = less_times([Twin(0), Twin(1)], point.mirror())
     lower = _put_curve(base, box.degree, above, below)
-    if not lower or lower[0].is_nought:
+    if lower[0].is_nought:
         raise NoWorth(turn.at(0))
     return Box(_put_curve(top, box.degree, above, below), lower)
 

@@ -65,7 +65,7 @@ class LowestTerms(Looks, unittest.TestCase):
                 self.assertEqual(repr(box), "Box([], [Twin(Ratio(1, 1), Ratio(0, 1))])")
 
     def test_unlike(self):
-        some = [Box([1], [1]), Box([2], [1]), Box([1], [2, 1]), Box([0, 1], [1]), Box([], [1]), Box([1, 1], [1, HALF])]
+        some = [Box([1], [1]), Box([1], [1, 2]), Box([2], [1]), Box([1], [2, 1]), Box([0, 1], [1]), Box([], [1])]
         for i, one in enumerate(some):
             for j, two in enumerate(some):
                 self.assert_answer(i == j, one == two)

@@ -100,6 +100,8 @@ class Members(Looks, unittest.TestCase):
         great = Box([0] * 40 + [1], [1])
         self.assert_error(TooMany, member, ONE, great, what="degree", limit=40)
         self.assert_error(TooMany, member, [(0, [0, 0, 0]), (HALF, [0])], Box([0] * 37 + [1], [1]), what="degree", limit=40)
+        below = Box([1], [1] + [0] * 39 + [HALF])
+        self.assert_error(TooMany, member, [(HALF, [0])], below, what="degree", limit=40)
         found = member(ONE, Box([0] * 39 + [1], [1]))
         self.assertEqual(found.degree, 40)
         self.assertEqual(free_of(ONE, found), Box([0] * 39 + [1], [1]))
