@@ -3,7 +3,6 @@
 from neverlouder.bars import bar, is_bar
 from neverlouder.curves import product_of
 from neverlouder.made import made_rows, made_table
-from neverlouder.ratios import Ratio
 from neverlouder.series import quotient_numbers
 from neverlouder.squares import without
 from neverlouder.steps import need_step
@@ -16,7 +15,7 @@ def rest_table(telling):
     """The rest table: the made table behind its first step, without its first row and column."""
     tolds = told_telling(telling)
     need_step(tolds)
-    rows = without(made_rows(tolds, Ratio(1)), 0)
+    rows = without(made_rows(tolds, 1), 0)
     return [row[1:] for row in rows[1:]]
 
 
@@ -48,7 +47,7 @@ def led_back(telling, weights):
     need_step(tolds)
     rows = _leading_rows(tolds)
     found = _row_before(told_weights(weights, len(rows)), rows)
-    made = made_rows(tolds, Ratio(1))
+    made = made_rows(tolds, 1)
     column = [row[0] for row in made]
     return [-dot(found, column[1:]).over(column[0])] + found
 

@@ -86,6 +86,16 @@ def product_of(first, second):
     return found
 
 
+def put_curve(entries, many, above, below):
+    """The sum of each entry k times above to the k-th times below to the (many - k)-th, for told curves."""
+    found = []
+    power = [Twin(1)]
+    for one in padded(entries, many + 1)[::-1]:
+        found = added(product_of(found, above), [one * two for two in power])
+        power = product_of(power, below)
+    return found
+
+
 def scaled(curve, number):
     """The curve times a number."""
     entries = told(curve)

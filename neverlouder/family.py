@@ -21,14 +21,14 @@ def need_choice(tolds):
         raise NoChoice()
 
 
-def family_of(tolds):
-    """The family of a telling that is told in Twins, and that many boxes do."""
+def family_of(tolds, bound=1):
+    """The family of a telling that is told in Twins, and that many boxes within the bound do."""
     tables = []
     left = tolds
     while left:
         point, answers = left[0]
-        tables.append(step_curves(point, answers[0]))
-        left = stepped_tolds(left)
+        tables.append(step_curves(point, answers[0], bound))
+        left = stepped_tolds(left, bound)
     found = tables[-1]
     for four in tables[-2::-1]:
         found = _one_behind(four, found)

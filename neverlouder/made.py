@@ -4,7 +4,6 @@ from neverlouder.basics import is_count, is_list
 from neverlouder.boxes import need_box
 from neverlouder.curves import worth_at
 from neverlouder.errors import InvalidMany, InvalidPoints
-from neverlouder.ratios import Ratio
 from neverlouder.squares import steps_above
 from neverlouder.tables import form_of, is_all_nought, shared, told_weights
 from neverlouder.tellings import MOST_ANSWERS, MOST_AT_POINT, answers_in, lower_blocks, need_few_answers, told_telling
@@ -14,17 +13,21 @@ from neverlouder.twins import as_twin, is_point
 
 def made_table(telling):
     """The made table of a telling."""
-    return made_rows(told_telling(telling), Ratio(1))
+    return made_rows(told_telling(telling), 1)
 
 
 def made_rows(tolds, bound):
     """The bound times the force table, less the table of what comes out: the made table for the bound 1."""
     force = force_rows(tolds)
-    out = _out_rows(force, tolds)
+    return less_out(force, out_rows(force, tolds), bound)
+
+
+def less_out(force, out, bound):
+    """The bound times one table, less another one."""
     return [[one * bound - two for one, two in zip(up, down)] for up, down in zip(force, out)]
 
 
-def _out_rows(force, tolds):
+def out_rows(force, tolds):
     """The table of what comes out: the answers' table times the force table times the former's turned mirror."""
     return shared(force, lower_blocks([answers for _, answers in tolds]))
 
@@ -39,7 +42,7 @@ def mixture_out(telling, weights):
     """The force of what comes out of a mixture of the tones, up to moment 0, a Ratio."""
     tolds = told_telling(telling)
     row = told_weights(weights, answers_in(tolds))
-    return form_of(_out_rows(force_rows(tolds), tolds), row)
+    return form_of(out_rows(force_rows(tolds), tolds), row)
 
 
 def does(box, telling):
@@ -90,9 +93,14 @@ def kind(telling):
     return kind_of(told_telling(telling))
 
 
-def kind_of(tolds):
-    """The kind of a telling that is told in Twins."""
-    steps, rest = steps_above(made_rows(tolds, Ratio(1)))
+def kind_of(tolds, bound=1):
+    """How many boxes within a bound do a telling that is told in Twins: its kind for the bound 1."""
+    return kind_of_rows(made_rows(tolds, bound))
+
+
+def kind_of_rows(rows):
+    """The kind of a telling with this made table."""
+    steps, rest = steps_above(rows)
     if not is_all_nought(rest):
         return "none"
     return "one" if len(steps) < len(rest) else "many"

@@ -1,7 +1,7 @@
 """Members of families: the boxes that do a telling, each by its free box, and the only box of some tellings."""
 
 from neverlouder.boxes import Box, lowest_terms, need_box
-from neverlouder.built import box_of, steps_of_tolds
+from neverlouder.built import box_of_steps, steps_of_tolds
 from neverlouder.curves import MOST_DEGREE, MOST_ENTRIES
 from neverlouder.errors import NoMember, NotDone, TooMany
 from neverlouder.family import family_of, need_choice
@@ -53,6 +53,6 @@ def only_box(telling):
     return only_of(tolds)
 
 
-def only_of(tolds):
-    """The only Box of a telling of the kind "one" that is told in Twins."""
-    return box_of(steps_of_tolds(tolds))
+def only_of(tolds, bound=1):
+    """The only Box within a bound of a telling, told in Twins, that just one does."""
+    return box_of_steps(steps_of_tolds(tolds, bound), bound)

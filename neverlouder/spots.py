@@ -12,9 +12,9 @@ from neverlouder.tellings import MOST_AT_POINT, answers_at, need_untold, told_te
 from neverlouder.twins import as_point, as_twin
 
 
-def _doable_kind(tolds):
-    """The kind of a telling; NotDoable if it is not doable."""
-    found = kind_of(tolds)
+def _doable_kind(tolds, bound=1):
+    """The kind of a telling within a bound; NotDoable if it is not doable."""
+    found = kind_of(tolds, bound)
     if found == "none":
         raise NotDoable()
     return found
@@ -23,21 +23,28 @@ def _doable_kind(tolds):
 def spot(telling, point):
     """The tuple of the middle and the half width squared of the spot at a point."""
     tolds = told_telling(telling)
-    return _spot_at(tolds, as_point(point))
+    return spot_at(tolds, as_point(point))
 
 
-def _spot_at(tolds, place):
-    if _doable_kind(tolds) == "one":
-        return only_of(tolds).worth(place), Ratio(0)
-    return round_image(worths_of(family_of(tolds), place))
+def spot_at(tolds, place, bound=1):
+    """The spot within a bound, at a Twin, of a telling that is told in Twins."""
+    if _doable_kind(tolds, bound) == "one":
+        return only_of(tolds, bound).worth(place), Ratio(0)
+    return round_image(worths_of(family_of(tolds, bound), place), bound)
 
 
-def round_image(four):
-    """The middle and the half width squared of all (a g + b) by (c g + d), g of a size up to 1."""
+def round_image(four, bound=1):
+    """The middle and the half width squared of all (a g + b) by (c g + d), g of a size up to the bound."""
     a, b, c, d = four
-    below = d.size() - c.size()
-    middle = (b * d.mirror() - a * c.mirror()).over(below)
-    return middle, (a * d - b * c).size().over(below * below)
+    below = d.size() - c.size() * bound
+    middle = (b * d.mirror() - a * c.mirror() * bound).over(below)
+    return middle, ((a * d - b * c).size() * bound).over(below * below)
+
+
+def is_at_spot(spot_there, wanted):
+    """Whether a Twin is in a spot, told by its middle and its half width squared."""
+    middle, square = spot_there
+    return (wanted - middle).size().is_at_most(square)
 
 
 def next_spot(telling, point):
@@ -67,8 +74,7 @@ def is_in_spot(telling, point, number):
     tolds = told_telling(telling)
     place = as_point(point)
     wanted = as_twin(number)
-    middle, square = _spot_at(tolds, place)
-    return (wanted - middle).size().is_at_most(square)
+    return is_at_spot(spot_at(tolds, place), wanted)
 
 
 def is_on_rim(telling, point, number):
@@ -79,7 +85,7 @@ def is_on_rim(telling, point, number):
 
 
 def _is_on_rim_at(tolds, place, wanted):
-    middle, square = _spot_at(tolds, place)
+    middle, square = spot_at(tolds, place)
     return (wanted - middle).size() == square
 
 

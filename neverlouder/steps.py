@@ -14,10 +14,10 @@ def sequence(telling):
     return [point for point, answers in told_telling(telling) for _ in answers]
 
 
-def can_step(tolds):
-    """Whether a step can be taken; the tolds are at least one."""
+def can_step(tolds, bound=1):
+    """Whether a step can be taken within a bound; the tolds are at least one."""
     firsts = [answers[0].size() for _, answers in tolds]
-    return firsts[0].is_below(1) and all([one.is_at_most(1) for one in firsts[1:]])
+    return firsts[0].is_below(bound) and all([one.is_at_most(bound) for one in firsts[1:]])
 
 
 def need_step(tolds):
@@ -34,21 +34,22 @@ def step(telling):
     return point, answers[0], stepped_tolds(tolds) or None
 
 
-def stepped_tolds(tolds):
-    """The tolds behind a step that can be taken, perhaps none."""
+def stepped_tolds(tolds, bound=1):
+    """The tolds behind a step that can be taken within a bound, perhaps none."""
     place, answers = tolds[0]
+    mirror = answers[0].mirror().over(bound)
     found = []
     for point, entries in tolds:
-        left = _stepped_answers(point, entries, place, answers[0])
+        left = _stepped_answers(point, entries, place, answers[0], mirror)
         if left:
             found.append((point, left))
     return found
 
 
-def _stepped_answers(point, entries, place, number):
+def _stepped_answers(point, entries, place, number, mirror):
     """The first entries, near the point, of what a box with these entries is stepped to at the place."""
     upper = [entries[0] - number] + entries[1:]
-    lower = less_times(entries, number.mirror())
+    lower = less_times(entries, mirror)
     many = len(entries)
     if point == place:
         # Both x - z and what stands above it begin with 0 here: one entry less is told.
@@ -116,11 +117,11 @@ def step_back(box, point, number):
     return _box_if_any(upper, lower)
 
 
-def step_curves(point, number):
-    """The four curves (a, b, c, d) of a step: back by it a box g becomes (a g + b) by (c g + d)."""
+def step_curves(point, number, bound=1):
+    """The four curves (a, b, c, d) of a step within a bound: back by it g becomes (a g + b) by (c g + d)."""
     above = [-point, Twin(1)]
     below = trimmed(less_times([Twin(0), Twin(1)], point.mirror()))
-    mirror = number.mirror()
+    mirror = number.mirror().over(bound)
     return above, trimmed([one * number for one in below]), trimmed([one * mirror for one in above]), below
 
 

@@ -1,7 +1,7 @@
 """Turns of the disc, and boxes and tellings that are moved by them."""
 
 from neverlouder.boxes import Box, need_box
-from neverlouder.curves import added, padded, product_of
+from neverlouder.curves import added, padded, product_of, put_curve
 from neverlouder.errors import InvalidNumber, InvalidTurn, InvalidUnit, NoWorth, SamePoint
 from neverlouder.series import quotient_numbers
 from neverlouder.tellings import less_times, need_not_loud, told_telling
@@ -60,20 +60,10 @@ def box_put(box, turn):
     top, base = box.curves()
     above = [-number * point, number]
     below = less_times([Twin(0), Twin(1)], point.mirror())
-    lower = _put_curve(base, box.degree, above, below)
+    lower = put_curve(base, box.degree, above, below)
     if lower[0].is_nought:
         raise NoWorth(turn.at(0))
-    return Box(_put_curve(top, box.degree, above, below), lower)
-
-
-def _put_curve(entries, many, above, below):
-    """The sum of each entry k times above to the k-th times below to the (many - k)-th."""
-    found = []
-    power = [Twin(1)]
-    for one in padded(entries, many + 1)[::-1]:
-        found = added(product_of(found, above), [one * two for two in power])
-        power = product_of(power, below)
-    return found
+    return Box(put_curve(top, box.degree, above, below), lower)
 
 
 def box_moved(box, turn):

@@ -245,6 +245,11 @@ INTERFACE = {
     "distances": "distance round_spot two_let far_pair lone_spots",
     "beginnings": "knocks_let schur_of schur from_schur next_knock",
     "bounds": "made_table_within is_doable_within bar_within is_bar_within",
+    "within": "is_steps_within box_of_within steps_within box_within shows_within spot_within is_in_spot_within",
+    "softest": "shown_by softest_between is_softest", "choices": "is_doable_lot greatest_lots fewest_out",
+    "rims": "rim_place rim_curve real_roots is_nowhere_below",
+    "judged": "is_steady is_never_louder loud_point is_loud_point is_strictly_softer touches",
+    "joined": "product share delayed put_in led product_telling share_telling",
 }
 IN_CLASSES = {
     "Ratio": (

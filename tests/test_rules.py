@@ -3,14 +3,14 @@
 import unittest
 
 from neverlouder import (
-    barred, bars, basics, beginnings, bounds, boxes, built, curves, distances, family, made, members, played, ranks,
-    ratios, series, spots, squares, steps, tables, tones, turns, twins,
+    barred, bars, basics, beginnings, bounds, boxes, built, choices, curves, distances, family, joined, judged, made,
+    members, played, ranks, ratios, rims, series, softest, spots, squares, steps, tables, tones, turns, twins, within,
 )
 from neverlouder.boxes import Box
 from neverlouder.errors import (
-    InvalidBound, InvalidBox, InvalidCurve, InvalidMany, InvalidNumber, InvalidNumbers, InvalidPoint, InvalidPoints,
-    InvalidPositions, InvalidRatio, InvalidRow, InvalidRows, InvalidSteps, InvalidTable, InvalidTelling, InvalidTurn,
-    InvalidUnit, InvalidWeights,
+    InvalidBound, InvalidBox, InvalidCurve, InvalidLinks, InvalidMany, InvalidNumber, InvalidNumbers, InvalidPoint,
+    InvalidPoints, InvalidPositions, InvalidRatio, InvalidRow, InvalidRows, InvalidShare, InvalidSteps, InvalidTable,
+    InvalidTelling, InvalidTurn, InvalidUnit, InvalidWeights,
 )
 from neverlouder.ratios import Ratio
 from neverlouder.turns import Turn
@@ -24,6 +24,7 @@ TABLE = [[2, Twin(0, 1)], [Twin(0, -1), Ratio(1)]]
 LOW = [[1, Twin(2)], [2, 1]]
 BOX = Box(CURVE, OTHER)
 SOFT = Box([1, 2], [2, 1])
+LATE = Box([0, 1, Twin(0, 1)], [3])
 TELLING = [(0, [HALF, Twin(0, Ratio(1, 4))]), (Ratio(1, 3), (Twin(HALF, Ratio(1, 10)),))]
 ONE_TOLD = [(0, [HALF])]
 TWO = [(0, [0]), (HALF, [Ratio(1, 3)])]
@@ -76,13 +77,20 @@ KINDS = {
     "soft_numbers": ([HALF, Twin(0, HALF)], InvalidNumbers, []),
     "last": (Twin(0, 1), InvalidNumber, []),
     "bound": (Ratio(3, 2), InvalidBound, []),
+    "loud_steps": (([(0, 1), (HALF, 0)], Twin(0, 1)), InvalidSteps, []),
+    "real_curve": ([-2, HALF, 0, 1, 0], InvalidCurve, []),
+    "other_box": (LATE, InvalidBox, []),
+    "share": (Ratio(2, 5), InvalidShare, []),
+    "links": ([(0, HALF), (HALF, Twin(0, HALF))], InvalidLinks, []),
+    "other_telling": ([(0, [1, 2]), (Ratio(1, 3), [Twin(0, 1)])], InvalidTelling, []),
 }
 # What a kind of parameter is called, if not as its kind.
 NAMES = {
     "other_table": "other", "one_telling": "telling", "two_telling": "telling", "told_weights": "weights",
     "led_weights": "weights", "few": "many", "soft_box": "box", "small_number": "number", "told_point": "point",
     "half_point": "point", "rim_number": "number", "unit": "number", "part": "ratio", "beginning": "row",
-    "soft_numbers": "numbers",
+    "soft_numbers": "numbers", "loud_steps": "steps", "real_curve": "curve", "other_box": "other", "share": "ratio",
+    "other_telling": "other",
 }
 
 ONE = Ratio(3, 4)
@@ -129,7 +137,19 @@ CALLS = (
     (beginnings.schur_of, "beginning"), (beginnings.schur, "box few"), (beginnings.from_schur, "soft_numbers last"),
     (beginnings.next_knock, "beginning"), (bounds.made_table_within, "telling bound"),
     (bounds.is_doable_within, "telling bound"), (bounds.bar_within, "telling bound"),
-    (bounds.is_bar_within, "telling bound value"),
+    (bounds.is_bar_within, "telling bound value"), (within.is_steps_within, "bound value"),
+    (within.box_of_within, "bound loud_steps"), (within.steps_within, "telling bound"),
+    (within.box_within, "telling bound"), (within.shows_within, "telling bound value"),
+    (within.spot_within, "telling point bound"), (within.is_in_spot_within, "telling point bound number"),
+    (softest.shown_by, "telling told_weights"), (softest.softest_between, "telling many"),
+    (softest.is_softest, "telling bound"), (choices.is_doable_lot, "telling value"),
+    (choices.greatest_lots, "telling"), (choices.fewest_out, "telling"), (rims.rim_place, "ratio"),
+    (rims.rim_curve, "box"), (rims.real_roots, "real_curve"), (rims.is_nowhere_below, "real_curve"),
+    (judged.is_steady, "curve"), (judged.is_never_louder, "box"), (judged.loud_point, "box"),
+    (judged.is_loud_point, "box value"), (judged.is_strictly_softer, "soft_box"), (judged.touches, "box"),
+    (joined.product, "box other_box"), (joined.share, "box other_box share"), (joined.delayed, "box many"),
+    (joined.put_in, "box other_box"), (joined.led, "links box"),
+    (joined.product_telling, "telling other_telling"), (joined.share_telling, "telling other_telling share"),
 )
 
 
