@@ -6,7 +6,9 @@ from neverlouder.curves import worth_at
 from neverlouder.errors import InvalidMany, InvalidPoints
 from neverlouder.squares import steps_above
 from neverlouder.tables import form_of, is_all_nought, shared, told_weights
-from neverlouder.tellings import MOST_ANSWERS, MOST_AT_POINT, answers_in, lower_blocks, need_few_answers, told_telling
+from neverlouder.tellings import (
+    MOST_ANSWERS, MOST_AT_POINT, answers_in, are_unlike, lower_blocks, need_few_answers, told_telling,
+)
 from neverlouder.tones import force_rows
 from neverlouder.twins import as_twin, is_point
 
@@ -79,8 +81,7 @@ def _are_points(value):
         return False
     if not all([is_point(one) for one in value]):
         return False
-    places = [as_twin(one) for one in value]
-    return not any([place in places[:at] for at, place in enumerate(places)])
+    return are_unlike([as_twin(one) for one in value])
 
 
 def is_doable(telling):

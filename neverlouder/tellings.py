@@ -21,6 +21,18 @@ def told_telling(telling):
     return tolds
 
 
+def is_telling(value):
+    """Whether any value is a telling."""
+    if not is_list(value) or len(value) < 1 or not all([_is_told(one) for one in value]):
+        return False
+    return are_unlike([as_twin(point) for point, _ in value]) and answers_in(value) <= MOST_ANSWERS
+
+
+def are_unlike(points):
+    """Whether no two of some Twins are the same."""
+    return not any([point in points[:at] for at, point in enumerate(points)])
+
+
 def _is_told(value):
     if not isinstance(value, tuple) or len(value) != 2:
         return False

@@ -19,7 +19,7 @@ BUILTINS = (
 METHODS = (
     "append clear copy count endswith extend find get index insert isalnum isalpha isdigit islower isspace isupper "
     "items join keys ljust lower lstrip partition pop remove replace reverse rfind rjust rpartition rsplit rstrip "
-    "setdefault split splitlines startswith strip update upper values zfill bit_length"
+    "setdefault split splitlines startswith strip update upper values zfill bit_length isascii removeprefix"
 ).split()
 DOUBLE = (
     "__init__ __eq__ __repr__ __str__ __len__ __add__ __radd__ __sub__ __rsub__ __mul__ __rmul__ __neg__ "
@@ -32,12 +32,13 @@ BARRED = (
 ).split()
 STATEMENTS = (
     ast.Assign, ast.AugAssign, ast.If, ast.While, ast.For, ast.Return, ast.Break, ast.Continue, ast.Pass, ast.Raise,
-    ast.Assert, ast.Delete, ast.Expr, ast.FunctionDef, ast.ClassDef, ast.ImportFrom,
+    ast.Assert, ast.Delete, ast.Expr, ast.FunctionDef, ast.ClassDef, ast.ImportFrom, ast.Try, ast.With,
 )
 BARRED_NODES = (
-    ast.GeneratorExp, ast.Lambda, ast.Yield, ast.YieldFrom, ast.Await, ast.AnnAssign, ast.Starred, ast.NamedExpr,
-    ast.Div, ast.MatMult, ast.Try, ast.With, ast.Match, ast.Global, ast.Nonlocal, ast.Import, ast.AsyncFunctionDef,
+    ast.GeneratorExp, ast.Lambda, ast.Yield, ast.YieldFrom, ast.Await, ast.AnnAssign, ast.NamedExpr, ast.Div,
+    ast.MatMult, ast.Match, ast.Global, ast.Nonlocal, ast.Import, ast.AsyncFunctionDef,
 )
+OWN_ERRORS = ["BoxError", "LimitError", "MissingError", "StateError"]
 
 
 def nodes(kind):
@@ -105,9 +106,19 @@ class Files(unittest.TestCase):
                 plain = isinstance(node, (ast.FunctionDef, ast.ClassDef, ast.ImportFrom, ast.Assign))
                 self.assertTrue(doc or plain, (stem, node.lineno))
                 if isinstance(node, ast.Assign):
-                    ast.literal_eval(node.value)
+                    self.look_at_value(node.value, [one.name for one in tree.body[:at] if hasattr(one, "name")])
             bound = bound_above(tree)
             self.assertEqual(sorted(bound), sorted(set(bound)), stem)
+
+
+    def look_at_value(self, value, above):
+        """A plain value, or a dict of functions that are defined above."""
+        if isinstance(value, ast.Dict) and isinstance(value.values[0], ast.Name):
+            for key, one in zip(value.keys, value.values):
+                self.assertIsInstance(key, ast.Constant)
+                self.assertIn(one.id, above)
+        else:
+            ast.literal_eval(value)
 
 
 class Imports(unittest.TestCase):
@@ -202,6 +213,32 @@ class Words(unittest.TestCase):
         for stem, node in nodes(ast.Pow):
             self.fail(stem)
 
+    def test_errors(self):
+        for stem, node in nodes(ast.ExceptHandler):
+            self.assertEqual(sorted([one.id for one in node.type.elts]), OWN_ERRORS, (stem, node.lineno))
+        for stem, node in nodes(ast.Raise):
+            self.assertIsInstance(node.exc, ast.Call, (stem, node.lineno))
+            self.assertTrue(node.cause is None or node.cause.id == "error", (stem, node.lineno))
+
+    def test_ends(self):
+        """What stands in a `finally` and in `__exit__` is plain assignments."""
+        rows = [row for _, node in nodes(ast.Try) for row in node.finalbody]
+        rows += [row for _, node in nodes(ast.FunctionDef) if node.name == "__exit__" for row in node.body]
+        self.assertTrue(rows)
+        for row in rows:
+            self.assertIsInstance(row, ast.Assign)
+            self.assertIsInstance(row.value, (ast.Name, ast.Attribute))
+
+    def test_what_has_items_is_not_iterated_over(self):
+        for stem, node in nodes(ast.ClassDef):
+            methods = {one.name: one for one in node.body if isinstance(one, ast.FunctionDef)}
+            self.assertEqual("__getitem__" in methods, "__iter__" in methods, stem)
+            if "__iter__" in methods:
+                self.assertIsInstance(methods["__iter__"].body[0], ast.Raise)
+        for stem, node in nodes(ast.Call):
+            if isinstance(node.func, ast.Name) and node.func.id == "reversed":
+                self.assertEqual(node.args[0].func.id, "range", (stem, node.lineno))
+
     def test_is(self):
         for stem, node in nodes(ast.Compare):
             for sign, right in zip(node.ops, node.comparators):
@@ -250,6 +287,11 @@ INTERFACE = {
     "rims": "rim_place rim_curve real_roots is_nowhere_below",
     "judged": "is_steady is_never_louder loud_point is_loud_point is_strictly_softer touches",
     "joined": "product share delayed put_in led product_telling share_telling",
+    "keepers": "is_keeper keeper keeper_of noughts without_nought keeper_by",
+    "texts": "value_word telling_text box_text steps_text turn_text weights_text text_of",
+    "forms": "read_value read_telling read_box read_steps read_turn read_weights read",
+    "claims": "words is_claim is_true contrary paper_of is_paper_of", "commands": "is_name is_command is_deed",
+    "desk": "Desk Trial tried",
 }
 IN_CLASSES = {
     "Ratio": (
@@ -262,6 +304,11 @@ IN_CLASSES = {
     ),
     "Box": "degree curves worth around knock __eq__ __repr__ __init__",
     "Turn": "parts at back behind __eq__ __repr__ __init__",
+    "Desk": (
+        "names labels __len__ __getitem__ __contains__ claim_of do __call__ do_all attempt attach fits lines copy again "
+        "__init__"
+    ),
+    "Trial": "__init__ __enter__ __exit__",
 }
 
 

@@ -3,14 +3,15 @@
 import unittest
 
 from neverlouder import (
-    barred, bars, basics, beginnings, bounds, boxes, built, choices, curves, distances, family, joined, judged, made,
-    members, played, ranks, ratios, rims, series, softest, spots, squares, steps, tables, tones, turns, twins, within,
+    barred, bars, basics, beginnings, bounds, boxes, built, choices, claims, commands, curves, distances, family, forms,
+    joined, judged, keepers, made, members, played, ranks, ratios, rims, series, softest, spots, squares, steps, tables,
+    texts, tones, turns, twins, within,
 )
 from neverlouder.boxes import Box
 from neverlouder.errors import (
-    InvalidBound, InvalidBox, InvalidCurve, InvalidLinks, InvalidMany, InvalidNumber, InvalidNumbers, InvalidPoint,
-    InvalidPoints, InvalidPositions, InvalidRatio, InvalidRow, InvalidRows, InvalidShare, InvalidSteps, InvalidTable,
-    InvalidTelling, InvalidTurn, InvalidUnit, InvalidWeights,
+    InvalidBound, InvalidBox, InvalidClaim, InvalidCurve, InvalidLinks, InvalidMany, InvalidNumber, InvalidNumbers,
+    InvalidPoint, InvalidPoints, InvalidPositions, InvalidRatio, InvalidRow, InvalidRows, InvalidShare, InvalidSteps,
+    InvalidTable, InvalidTelling, InvalidText, InvalidThing, InvalidTurn, InvalidUnit, InvalidWeights,
 )
 from neverlouder.ratios import Ratio
 from neverlouder.turns import Turn
@@ -30,6 +31,7 @@ ONE_TOLD = [(0, [HALF])]
 TWO = [(0, [0]), (HALF, [Ratio(1, 3)])]
 STEPS = ([(0, HALF), (HALF, 0)], Twin(0, 1))
 TURN = Turn(Twin(0, 1), HALF)
+KEEPER = Box([0, 1, 2], [2, 1])
 
 # For each kind of parameter: a value that will do, its error, and odd values that may stand there all the same.
 KINDS = {
@@ -83,6 +85,22 @@ KINDS = {
     "share": (Ratio(2, 5), InvalidShare, []),
     "links": ([(0, HALF), (HALF, Twin(0, HALF))], InvalidLinks, []),
     "other_telling": ([(0, [1, 2]), (Ratio(1, 3), [Twin(0, 1)])], InvalidTelling, []),
+    "steady_curve": ([3, HALF, 0, Twin(1, -1), 0], InvalidCurve, []),
+    "some_points": ([0, Twin(0, HALF), 0], InvalidPoints, []),
+    "keeper": (KEEPER, InvalidBox, []),
+    "one_kind": ([(0, [0]), (HALF, [HALF])], InvalidTelling, []),
+    "text_steps": (STEPS, InvalidThing, []),
+    "text_turn": (TURN, InvalidThing, []),
+    "text_weights": ([1, HALF, Twin(0, 1)], InvalidThing, [[1, HALF, Twin(0, 1)]]),
+    "thing": (STEPS, InvalidThing, []),
+    "claim": (("in", TELLING, HALF, Twin(0, HALF)), InvalidClaim, []),
+    "value_text": ("1/2-1i", InvalidText, ["1", "1/2"]),
+    "any_text": ("turn 1i 1/2", InvalidText, ["1", "1/2"]),
+    "telling_text": ("telling\ntold 0 1/2 1i\ntold 1/2 1\nend", InvalidText, []),
+    "box_text": ("box\ntop 1 2\nbase 2 1\nend", InvalidText, []),
+    "steps_text": ("steps\nstep 0 1/2\nlast 1\nend", InvalidText, []),
+    "turn_text": ("turn 1i 1/2", InvalidText, []),
+    "weights_text": ("weights 1 0 1/2-1i", InvalidText, []),
 }
 # What a kind of parameter is called, if not as its kind.
 NAMES = {
@@ -90,7 +108,9 @@ NAMES = {
     "led_weights": "weights", "few": "many", "soft_box": "box", "small_number": "number", "told_point": "point",
     "half_point": "point", "rim_number": "number", "unit": "number", "part": "ratio", "beginning": "row",
     "soft_numbers": "numbers", "loud_steps": "steps", "real_curve": "curve", "other_box": "other", "share": "ratio",
-    "other_telling": "other",
+    "other_telling": "other", "steady_curve": "curve", "some_points": "points", "keeper": "box", "one_kind": "telling",
+    "text_steps": "steps", "text_turn": "turn", "text_weights": "weights", "value_text": "text", "any_text": "text",
+    "telling_text": "text", "box_text": "text", "steps_text": "text", "turn_text": "text", "weights_text": "text",
 }
 
 ONE = Ratio(3, 4)
@@ -150,6 +170,16 @@ CALLS = (
     (joined.product, "box other_box"), (joined.share, "box other_box share"), (joined.delayed, "box many"),
     (joined.put_in, "box other_box"), (joined.led, "links box"),
     (joined.product_telling, "telling other_telling"), (joined.share_telling, "telling other_telling share"),
+    (keepers.is_keeper, "box"), (keepers.keeper, "steady_curve unit"), (keepers.keeper_of, "some_points unit"),
+    (keepers.noughts, "keeper"), (keepers.without_nought, "keeper told_point"), (keepers.keeper_by, "one_kind"),
+    (texts.value_word, "number"), (texts.telling_text, "telling"), (texts.box_text, "box"),
+    (texts.steps_text, "text_steps"), (texts.turn_text, "text_turn"), (texts.weights_text, "text_weights"),
+    (texts.text_of, "thing"), (forms.read_value, "value_text"), (forms.read_telling, "telling_text"),
+    (forms.read_box, "box_text"), (forms.read_steps, "steps_text"), (forms.read_turn, "turn_text"),
+    (forms.read_weights, "weights_text"), (forms.read, "any_text"), (claims.words, ""), (claims.is_claim, "value"),
+    (claims.is_true, "claim"), (claims.contrary, "claim"), (claims.paper_of, "claim"),
+    (claims.is_paper_of, "claim value"), (commands.is_name, "value"), (commands.is_command, "value"),
+    (commands.is_deed, "value"),
 )
 
 
@@ -221,6 +251,7 @@ class Wrong(Looks, unittest.TestCase):
                 # The odd lists begin with what is no told, too.
                 at_first = 0 if isinstance(value, (list, tuple)) else None
                 held = {"position": at_first} if error is InvalidTelling else {"value": value}
+                held = {"line": 1} if error is InvalidText else held
                 self.assert_error(error, call, *ahead, value, *right, **held)
                 self.assert_error(error, call, *ahead, value, *[None for _ in right], **held)
 
