@@ -8,6 +8,7 @@ LETTERS = "abcdefghijklmnopqrstuvwxyz"
 DIGITS = "0123456789"
 MOST_SIGNS = 8
 # Parts of numbers and MANY have at most three digits.
+MOST_DIGITS = 3
 BEYOND_PARTS = 1000
 
 # What stands behind the word of a command, each of a kind:
@@ -116,23 +117,18 @@ def _part(kind, words):
     if not words:
         return None
     word = words[0]
-    if kind == "word":
-        return word
     if kind == "many":
         return _many(word)
     if kind in ("point", "value", "ratio"):
         return _number(kind, word)
+    # The words of claims, too, have the signs of names.
     return word if is_name(word) else None
 
 
 def _many(word):
-    if not _are_digits(word) or int(word) >= BEYOND_PARTS:
+    if len(word) < 1 or len(word) > MOST_DIGITS or not all([sign in DIGITS for sign in word]):
         return None
     return int(word) if str(int(word)) == word else None
-
-
-def _are_digits(word):
-    return 0 < len(word) <= MOST_SIGNS and all([sign in DIGITS for sign in word])
 
 
 def _number(kind, word):

@@ -109,11 +109,11 @@ class Desk:
     def _do_deed(self, line, parts, told):
         held = self.held
         kept = self._after(line, parts, told)
-        _need_few(kept.things, held.kept.things, "names", MOST_NAMES)
-        _need_few(kept.claims, held.kept.claims, "labels", MOST_LABELS)
-        if len(held.done) == MOST_DEEDS:
-            raise TooMany("deeds", MOST_DEEDS)
-        self.held = Held(kept, held.papers, held.done + ((line, held.kept, kept),), ())
+        done = held.done + ((line, held.kept, kept),)
+        _need_few(kept.things, "names", MOST_NAMES)
+        _need_few(kept.claims, "labels", MOST_LABELS)
+        _need_few(done, "deeds", MOST_DEEDS)
+        self.held = Held(kept, held.papers, done, ())
         return told_states(kept.states, held.kept.states)
 
     def _after(self, line, parts, told):
@@ -221,9 +221,9 @@ class Desk:
         return desk
 
 
-def _need_few(table, before, what, most):
-    """Raise TooMany if a table has grown beyond so many."""
-    if len(table) > len(before) and len(table) > most:
+def _need_few(kept, what, most):
+    """Raise TooMany if more than so many would be kept."""
+    if len(kept) > most:
         raise TooMany(what, most)
 
 

@@ -19,10 +19,10 @@ def product(box, other):
     need_box(other)
     top, base = box.curves()
     other_top, other_base = other.curves()
-    return joined_box(product_of(top, other_top), product_of(base, other_base))
+    return _joined_box(product_of(top, other_top), product_of(base, other_base))
 
 
-def joined_box(top, base):
+def _joined_box(top, base):
     """The Box of two told curves; TooMany if one of them has too many entries."""
     _need_few_entries(top, base)
     return Box(top, base)
@@ -41,7 +41,7 @@ def share(box, other, ratio):
     top, base = box.curves()
     other_top, other_base = other.curves()
     upper = _shared(product_of(top, other_base), product_of(other_top, base), part)
-    return joined_box(upper, product_of(base, other_base))
+    return _joined_box(upper, product_of(base, other_base))
 
 
 def _as_share(ratio):
@@ -60,10 +60,8 @@ def delayed(box, many):
     need_box(box)
     need_count(many)
     top, base = box.curves()
-    if not top:
-        return Box(top, base)
-    # So many noughts in front are too many in any case; more are not made.
-    return joined_box([Twin(0)] * min(many, MOST_ENTRIES) + top, base)
+    # So many noughts in front are too many in any case, unless nothing else is there; more are not made.
+    return _joined_box([Twin(0)] * min(many, MOST_ENTRIES) + top, base)
 
 
 def put_in(box, other):
@@ -73,9 +71,12 @@ def put_in(box, other):
     above, below = other.curves()
     if above and not above[0].is_nought:
         raise NotNought()
-    top, base = box.curves()
     many = box.degree
-    return joined_box(put_curve(top, many, above, below), put_curve(base, many, above, below))
+    # Top and base have no root in common: so one of the curves made of them has just this degree.
+    if many * other.degree > MOST_DEGREE:
+        raise TooMany("degree", MOST_DEGREE)
+    top, base = box.curves()
+    return Box(put_curve(top, many, above, below), put_curve(base, many, above, below))
 
 
 def led(links, box):

@@ -128,13 +128,9 @@ def place_below(entries):
     """A Ratio at which a curve is below 0 that is so somewhere."""
     high = beyond_roots(entries)
     low = -high
-    if sign_at(entries, high) < 0:
-        return high
-    if sign_at(entries, low) < 0:
-        return low
     rows = _rows_of(entries)
     middle = _between(entries, low, high)
-    # Both ends are above 0, and between them the sign changes.
+    # While the middle is above 0 the sign changes somewhere between both ends.
     while sign_at(entries, middle) > 0:
         if _odd_between(rows, low, middle) > 0:
             high = middle

@@ -29,7 +29,7 @@ NO_COMMANDS = (
     "box b", "box b 1", "box b by", "box b 1 by", "box b by 1 by 1", "box b 1 x by 1", "box b by x", "box by 1", "box b 1,2 by 1", "box b BY 1",
     "build b", "build b a c", "member b a", "member b a c d", "behind b a", "share b a c", "share b a c 1i", "share b a c 1/2 1/2",
     "share b a c 1/2+1/2i", "take c b", "take c b 1", "take c b 1000 0", "take c b -1 0", "take c b 01 0", "take c b 00 0", "take c b 1/2 0",
-    "take c b 1 1", "take c b 1 2", "take c b 1 0 x", "take c b +1 0", "drop", "drop a b", "drop A", "claim", "claim x", "claim x does",
+    "take c b 1 1", "take c b  0", "take c b " + "9" * 3900 + " 0", "take c b 1 2", "take c b 1 0 x", "take c b +1 0", "drop", "drop a b", "drop A", "claim", "claim x", "claim x does",
     "claim x does a b", "claim x Does a", "claim x do a", "claim X does a", "claim x in a", "claim x in a 0", "claim x in a 1 0", "claim x in a 0 0 0",
     "claim x softer a", "claim x softer a 1i", "claim x softer a 1 1", "claim x never", "claim x never b 1", "claim x loud B", "claim does a",
     "forget", "forget a b", "forget 1", "undo a", "redo 1", "undo ", "Undo", "state", "state x y", "states x", "claimed", "names a", "show",
