@@ -119,9 +119,7 @@ def is_somewhere_below(entries):
     if not entries:
         return False
     far = beyond_roots(entries)
-    if sign_at(entries, far) < 0 or sign_at(entries, -far) < 0:
-        return True
-    return _odd_between(_rows_of(entries), -far, far) > 0
+    return sign_at(entries, far) < 0 or _odd_between(_rows_of(entries), -far, far) > 0
 
 
 def place_below(entries):

@@ -154,6 +154,27 @@ class NeverLouder(Looks, unittest.TestCase):
             self.assert_loud(box)
             self.assert_loud(joined(box, Box([1], [5, 1, Twin(0, 2)])))
 
+    def test_roots_in_all_parts_of_the_disc(self):
+        little = Ratio(1, 10 ** 6)
+        parts = (Ratio(1, 7), Ratio(-1, 7), Ratio(5, 7), Ratio(-5, 7))
+        for plain in parts:
+            for side in parts:
+                root = Twin(plain, side) * (Ratio(9, 10) if abs(plain.top * side.top) == 25 else 1)
+                if root.size().is_below(1):
+                    self.assert_loud(Box([little], with_roots([root])))
+                    self.assert_loud(Box([0, little], with_roots([root, 2])))
+
+    def test_roots_without_the_disc_lead_nowhere(self):
+        little = Ratio(1, 10 ** 6)
+        for other in (Twin(Ratio(3, 4), Ratio(3, 4)), U * (1 + little), Twin(0, 1 + little), Twin(-1, -1), 1 + little):
+            for root in (Ratio(-1, 2), Twin(Ratio(-1, 3), Ratio(1, 3)), Twin(0, Ratio(-1, 7)), Ratio(2, 3)):
+                self.assert_loud(Box([little * little], with_roots([other, root])))
+
+    def test_not_beyond_the_rim(self):
+        # Beyond the rim it is loud in many places, within it near 1/2 alone.
+        top = [0] * 7 + [Ratio(9, 10), Ratio(-9, 20)]
+        self.assert_loud(Box(top, [-HALF, 1]))
+
     def test_louder_by_very_little_at_one_place(self):
         for unit in UNITS + (Twin(Ratio(-3, 5), Ratio(4, 5)), Twin(Ratio(-99, 101), Ratio(20, 101))):
             place = Twin(1) * unit
@@ -274,6 +295,14 @@ class Touches(Looks, unittest.TestCase):
         # Louder in between: the size of 1 + x is 1 at two such places.
         self.assertEqual(touches(box=Box([1, 1], [1])), 2)
         self.assert_answer(False, is_strictly_softer(Box([1, 1], [1])))
+
+    def test_places_where_it_begins_to_be_louder(self):
+        # The size of 1 + i x is 2 less twice the side of x: as much as that of 1 + i at 1 and at -1.
+        box = Box([1, Twin(0, 1)], [Twin(1, 1)])
+        self.assertEqual(touches(box), 2)
+        self.assert_answer(False, is_never_louder(box))
+        # Turned by a quarter the places are i and -i.
+        self.assertEqual(touches(Box([1, 1], [Twin(1, 1)])), 2)
 
     def test_all_of_the_rim(self):
         for box in (Box([1], [1]), Box([U], [1]), Box([0, 1], [1]), Box([1, 2], [2, 1]), Box([1, HALF], [HALF, 1])):

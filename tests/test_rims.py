@@ -129,7 +129,7 @@ class Roots(Looks, unittest.TestCase):
     def test_known_roots(self):
         near = HALF + Ratio(1, 10 ** 9)
         for roots in (
-            [], [0], [0, 0], [HALF], [HALF, -3], [HALF, HALF], [HALF] * 3, [1, 1, 2, 2], [1, 1, 2], [1] * 4, [0, 0, 0, 1],
+            [], [0], [0, 0], [Ratio(-1, 3)], [-3, -3, -3], [HALF], [HALF, -3], [HALF, HALF], [HALF] * 3, [1, 1, 2, 2], [1, 1, 2], [1] * 4, [0, 0, 0, 1],
             [-1, -1, 0, 5, 5], [HALF, near], [HALF, HALF, near, near], [1, 1, 1, 3, 3, 3], [HALF, HALF, near],
             [10 ** 6, -(10 ** 6)], [0, 0, 1, 1, 2, 2, 3, 3], [Ratio(1, 7), 0, Ratio(1, 7), 0], [2, 2, 2, 2, 2, 3],
         ):
